@@ -1,0 +1,1 @@
+"""Beststretch: rows of numbers, their best stretches, and what shows that none is better."""

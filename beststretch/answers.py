@@ -1,6 +1,6 @@
 """The answers: what is told of a row, and whether that shows that nothing better is there."""
 
-from beststretch.rows import is_ring_stretch, is_stretch, running_sums, stretch_sum
+from beststretch.rows import against_mean, is_ring_stretch, is_stretch, running_sums, stretch_sum, turned_inner
 
 
 def lows_bound(lows, row, least, number):
@@ -16,12 +16,10 @@ def lows_bound(lows, row, least, number):
     return True
 
 
-# A stretch across the ring's seam leaves out a stretch that has neither the first nor the last number.
 def tops_bound(tops, row, number):
     if len(row) < 3:
         return len(tops) == 0
-    turned = [-inner for inner in row[1:-1]]
-    return lows_bound(tops, turned, 1, number - sum(row))
+    return lows_bound(tops, turned_inner(row), 1, number - sum(row))
 
 
 def is_rising(table):
@@ -100,10 +98,7 @@ class Steep(Answer):
     def shows(self, row, least):
         if self.many < least or not is_stretch(row, self.first, self.many):
             return False
-        reached = stretch_sum(row, self.first, self.many)
-        # A stretch of this other row has more than 0 just where it has a greater mean in the row.
-        other = [number * self.many - reached for number in row]
-        return lows_bound(self.lows, other, least, 0)
+        return lows_bound(self.lows, against_mean(row, self.first, self.many), least, 0)
 
 
 class Around(Answer):

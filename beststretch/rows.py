@@ -42,3 +42,14 @@ def is_ring_stretch(row, first, many):
 
 def stretch_sum(row, first, many):
     return sum(row[first:first + many])
+
+
+# A stretch of this other row has more than 0 just where it has a greater mean in the row.
+def against_mean(row, first, many):
+    reached = stretch_sum(row, first, many)
+    return [number * many - reached for number in row]
+
+
+# A stretch across the ring's seam leaves out a stretch that has neither the first nor the last number.
+def turned_inner(row):
+    return [-number for number in row[1:-1]]

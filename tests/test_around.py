@@ -1,19 +1,10 @@
-import itertools
 import unittest
 
 from beststretch.answers import Around
 from tests.helper import (
-    EDGE, bound_by_words, changed_by_one, lowest_lows, near_stretches, of_other_length, ring_numbers, small_lists,
-    small_rows,
+    EDGE, bound_by_words, changed_by_one, lowest_lows, near_stretches, of_other_length, ring_numbers, ring_stretches,
+    small_lists, small_rows, tops_by_words, turned,
 )
-
-
-def ring_stretches(row):
-    return list(itertools.product(range(len(row)), range(1, len(row) + 1)))
-
-
-def turned(row):
-    return [-number for number in row[1:-1]]
 
 
 def around_of(row):
@@ -21,12 +12,6 @@ def around_of(row):
     first, many = max(ring_stretches(row), key=lambda one: sum(ring_numbers(row, *one)))
     tops = lowest_lows(turned(row), 1) if len(row) >= 3 else []
     return Around(first, many, lowest_lows(row, 1), tops)
-
-
-def tops_by_words(tops, row, number):
-    if len(row) < 3:
-        return tops == []
-    return bound_by_words(tops, turned(row), 1, number - sum(row))
 
 
 class AroundShows(unittest.TestCase):

@@ -3,14 +3,9 @@ from fractions import Fraction
 
 from beststretch.answers import Best, Steep
 from tests.helper import (
-    EDGE, bound_by_words, changed_by_one, lowest_lows, near_stretches, of_other_length, small_lists, small_rows,
-    stretches_of,
+    EDGE, bound_by_words, changed_by_one, lowest_lows, near_stretches, of_other_length, other_row, small_lists,
+    small_rows, stretches_of,
 )
-
-
-def other_row(row, first, many):
-    whole = sum(row[first:first + many])
-    return [number * many - whole for number in row]
 
 
 def best_of(row, least):

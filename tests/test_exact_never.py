@@ -1,25 +1,13 @@
 import unittest
 
 from beststretch.answers import Exact, Never
-from tests.helper import EDGE, near_stretches, small_lists, small_rows, stretches_of, sum_to
+from tests.helper import EDGE, near_stretches, never_by_words, small_lists, small_rows, stretches_of, sum_to
 
 
 def never_of(row):
     """The closest table of a row: each sum with the first and the last place where it stands."""
     found = [sum_to(row, place) for place in range(len(row) + 1)]
     return [(one, found.index(one), len(row) - found[::-1].index(one)) for one in sorted(set(found))]
-
-
-def never_by_words(table, row, total):
-    numbers = [number for number, first, last in table]
-    return (
-        all(ahead < later for ahead, later in zip(numbers, numbers[1:]))
-        and all(
-            any(number == sum_to(row, place) and first <= place <= last for number, first, last in table)
-            for place in range(len(row) + 1)
-        )
-        and not any(m + total == n and first < last for m, first, other in table for n, another, last in table)
-    )
 
 
 class ExactShows(unittest.TestCase):

@@ -21,6 +21,11 @@ PARTS_NOT_USED = (
     ast.AsyncFunctionDef, ast.AsyncFor, ast.AsyncWith, ast.SetComp, ast.DictComp, ast.GeneratorExp, ast.NamedExpr,
     ast.Starred, ast.Div, ast.MatMult, ast.Import, ast.AnnAssign,
 )
+METHODS = set(
+    "append clear copy count endswith extend find get index insert isalnum isalpha isdigit islower isspace isupper"
+    " items join keys ljust lower lstrip partition pop remove replace reverse rfind rjust rpartition rsplit rstrip"
+    " setdefault split splitlines startswith strip update upper values zfill bit_length".split()
+)
 
 
 def files():
@@ -79,3 +84,45 @@ class Form(unittest.TestCase):
                     self.assertFalse(part.id in pythons - OWN_NAMES, (file.name, part.lineno, part.id))
                     self.assertFalse(isinstance(part.ctx, ast.Store) and part.id in pythons, (file.name, part.id))
                     self.assertFalse(part.id.startswith("_"), (file.name, part.lineno, part.id))
+
+    def test_no_parameter_and_no_local_takes_a_name_that_is_there(self):
+        for file in files():
+            found = parts(file)
+            taken = set(dir(builtins))
+            taken |= {one.name for part in found if isinstance(part, ast.ImportFrom) for one in part.names}
+            taken |= {part.name for part in found if isinstance(part, ast.ClassDef)}
+            bound = {part.arg for part in found if isinstance(part, ast.arg)}
+            bound |= {part.id for part in found if isinstance(part, ast.Name) and isinstance(part.ctx, ast.Store)}
+            self.assertEqual(bound & taken, set(), file.name)
+
+    def test_methods_are_the_listed_ones_or_the_packages_own(self):
+        found = [part for file in files() for part in parts(file)]
+        classes = [part for part in found if isinstance(part, ast.ClassDef)]
+        own = {part.name for one in classes for part in one.body if isinstance(part, ast.FunctionDef)}
+        calls = [part.func for part in found if isinstance(part, ast.Call)]
+        called = {part.attr for part in calls if isinstance(part, ast.Attribute)}
+        self.assertEqual(called - METHODS - own, set())
+        stored = {part.attr for part in found if isinstance(part, ast.Attribute) and isinstance(part.ctx, ast.Store)}
+        self.assertEqual(stored & own, set())
+        for kind in (str, int, list, dict, set, tuple, bytes):
+            self.assertEqual((stored | own - {"__init__"}) & set(dir(kind)), set())
+
+    def test_no_else_behind_a_loop_and_is_beside_none_true_and_false_alone(self):
+        for file in files():
+            for part in parts(file):
+                if isinstance(part, (ast.For, ast.While)):
+                    self.assertEqual(part.orelse, [], (file.name, part.lineno))
+                if isinstance(part, ast.Compare):
+                    for sign, other in zip(part.ops, part.comparators):
+                        if isinstance(sign, (ast.Is, ast.IsNot)):
+                            self.assertIsInstance(other, ast.Constant, (file.name, part.lineno))
+
+    def test_no_two_files_draw_from_one_another(self):
+        drawn = {}
+        for file in files():
+            found = [part.module for part in parts(file) if isinstance(part, ast.ImportFrom)]
+            drawn["beststretch." + file.stem] = set(found)
+        while drawn:
+            ends = [name for name, others in drawn.items() if not others & set(drawn)]
+            self.assertNotEqual(ends, [], drawn)
+            drawn = {name: others for name, others in drawn.items() if name not in ends}

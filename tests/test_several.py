@@ -2,28 +2,9 @@ import itertools
 import unittest
 
 from beststretch.answers import Several
-from tests.helper import EDGE, changed_by_one, of_other_length, small_lists, small_rows, stretches_of
-
-
-def several_by_words(made, row, many):
-    """Point [7], said once more in the order of its words."""
-    price, outs, ins = made.price, made.outs, made.ins
-    taken = [place for first, count in made.stretches for place in range(first, first + count)]
-    places = range(len(row))
-    return (
-        all(one in stretches_of(row) for one in made.stretches)
-        and taken == sorted(set(taken))
-        and len(made.stretches) <= many
-        and price >= 0
-        and len(outs) == len(row) + 1
-        and outs[0] >= 0
-        and len(ins) == len(row)
-        and all(ins[place] >= outs[place] - price + row[place] for place in places)
-        and all(ins[place] >= ins[place - 1] + row[place] for place in places if place > 0)
-        and all(outs[place + 1] >= outs[place] for place in places)
-        and all(outs[place + 1] >= ins[place] for place in places)
-        and outs[-1] + price * many <= sum(row[place] for place in taken)
-    )
+from tests.helper import (
+    EDGE, changed_by_one, choices, of_other_length, reached, several_by_words, small_lists, small_rows, stretches_of,
+)
 
 
 def closest_bounds(row, price):
@@ -33,18 +14,6 @@ def closest_bounds(row, price):
         ins.append(max([outs[-1] - price] + ins[-1:]) + number)
         outs.append(max(outs[-1], ins[-1]))
     return outs, ins
-
-
-def choices(row, many):
-    """Every choice of no more than so many stretches, in order, that share no place."""
-    for count in range(many + 1):
-        for chosen in itertools.combinations(stretches_of(row), count):
-            if all(ahead[0] + ahead[1] <= later[0] for ahead, later in zip(chosen, chosen[1:])):
-                yield list(chosen)
-
-
-def reached(row, chosen):
-    return sum(sum(row[first:first + many]) for first, many in chosen)
 
 
 def true_answers(row, many):
